@@ -1,0 +1,1 @@
+"""Texts of numbers, and the readers that part on them."""
