@@ -1,10 +1,9 @@
 """Whether a reader takes a text, where it stops, and what the text means."""
 
-from readersapart.errors import BadText, NotTaken
+from readersapart.checks import LONGEST, check_text
+from readersapart.errors import NotTaken
 from readersapart.machine import START, lacking, step
 from readersapart.readers import check_reader
-
-LONGEST = 100
 
 
 def takes(reader, text):
@@ -33,10 +32,9 @@ def means(reader, text):
     return number_of(reader, text)
 
 
-def check_text(value):
-    """Raise BadText for a value that is no string of at most 100 signs."""
-    if not isinstance(value, str) or len(value) > LONGEST:
-        raise BadText("not a text of at most 100 signs")
+def number_if_taken(reader, text):
+    """The number that a text of any length means, None if the reader does not take it."""
+    return number_of(reader, text) if _goes_through(reader, text) else None
 
 
 def number_of(reader, text):
@@ -58,6 +56,16 @@ def plain_number(worth, power):
         worth //= 10
         power += 1
     return (worth, power)
+
+
+def _goes_through(reader, text):
+    """Whether the reader takes a text of any length."""
+    state = START
+    for sign in text:
+        state = step(reader, state, sign)
+        if state is None:
+            return False
+    return lacking(state) == 0
 
 
 def _around_point(reader, front):
