@@ -1,6 +1,6 @@
 """The checks of texts, numbers and lengths that are passed to the program."""
 
-from readersapart.errors import BadLength, BadNumber, BadText, BadTexts
+from readersapart.errors import BadIndex, BadLength, BadNumber, BadNumbers, BadText, BadTexts
 
 LONGEST = 100
 MOST_TEXTS = 20
@@ -30,10 +30,25 @@ def check_length(value):
         raise BadLength("not a length from 0 to 30")
 
 
+def check_index(value, many):
+    """Raise BadIndex for a value that is no integer from 0 to one less than this many."""
+    if not is_plain_integer(value) or not 0 <= value < many:
+        raise BadIndex(f"not an index of one of {many} texts")
+
+
 def check_number(value):
     """Raise BadNumber for a value that is no number within the limits."""
     if not is_number(value):
         raise BadNumber("not a number (n, k) within the limits")
+
+
+def check_numbers(values, many):
+    """Raise BadNumbers for a value that is no list or tuple of this many numbers or Nones."""
+    if not isinstance(values, (list, tuple)) or len(values) != many:
+        raise BadNumbers(None)
+    for index, value in enumerate(values):
+        if value is not None and not is_number(value):
+            raise BadNumbers(index)
 
 
 def is_number(value):

@@ -77,6 +77,14 @@ def parts(reader):
     return reader._parts
 
 
+def all_readers():
+    """All readers that there are, in the order of their first parts, of alike ones of their second parts, and so on."""
+    rows = [()]
+    for _, choices in CHOICES:
+        rows = [row + (choice,) for row in rows for choice in choices]
+    return [Reader(*row) for row in rows if _first_wrong(row) is None]
+
+
 def check_reader(value):
     """Raise BadReader for a value that is no Reader."""
     if not isinstance(value, Reader):

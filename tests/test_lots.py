@@ -6,35 +6,12 @@ from readersapart.lots import parting, safety, takers, ways
 from readersapart.pairs import same
 from readersapart.readers import Reader, parts
 from tests.grammar import all_parts, all_texts, worth_of
-from tests.trial import VALUES, parting_by_trial, safety_by_trial, trials
+from tests.trial import CHOSEN, LOTS, VALUES, lot, parting_by_trial, safety_by_trial, trials
 
 TWO = [
     Reader(".", ",", 3, False, "ahead", False, False, False),
     Reader(",", ".", 3, False, "ahead", False, False, False),
 ]
-
-CHOSEN = [
-    (".", ",", 3, False, "ahead", False, False, False),
-    (",", ".", 3, False, "behind", True, False, True),
-    (".", ",", 2, True, "ahead", True, True, True),
-    ("", ".", 2, False, "none", True, False, False),
-    (",", "'", 3, True, "ahead", False, True, True),
-    ("", " ", 3, False, "none", False, False, True),
-    (".", "", 2, True, "none", False, False, False),
-]
-
-# All lots of one, of two and of three, and some of four, readers among them twice too.
-LOTS = (
-    [(told,) for told in CHOSEN]
-    + list(product(CHOSEN, repeat=2))
-    + list(combinations(CHOSEN, 3))
-    + list(combinations(CHOSEN, 4))
-    + [(CHOSEN[0], CHOSEN[1], CHOSEN[0], CHOSEN[1]), (CHOSEN[2],) * 4, (CHOSEN[0], CHOSEN[2], CHOSEN[0])]
-)
-
-
-def lot(many):
-    return [Reader(*told) for told in many]
 
 
 class Compared(unittest.TestCase):

@@ -5,6 +5,9 @@ from all texts that it takes, up to some length, to their worths, as
 tests.grammar builds it. Nothing of the program is used.
 """
 
+from itertools import combinations, product
+
+from readersapart.readers import Reader
 from tests.grammar import taken
 
 # Values of every kind that may be passed where any value may be.
@@ -12,6 +15,31 @@ VALUES = [
     0, 1, 5, -1, 31, 10 ** 40, True, False, None, "", "5", "x", ".", (), (5,), (1, 0), ("5",), (None, [True]),
     [], [5], ["5"], [[]], {}, {"5": 5}, {1: 0},
 ]
+
+# Readers that have each part in each way, beside each other one in some way.
+CHOSEN = [
+    (".", ",", 3, False, "ahead", False, False, False),
+    (",", ".", 3, False, "behind", True, False, True),
+    (".", ",", 2, True, "ahead", True, True, True),
+    ("", ".", 2, False, "none", True, False, False),
+    (",", "'", 3, True, "ahead", False, True, True),
+    ("", " ", 3, False, "none", False, False, True),
+    (".", "", 2, True, "none", False, False, False),
+]
+
+# All lots of one, of two and of three, and some of four, readers among them twice too.
+LOTS = (
+    [(told,) for told in CHOSEN]
+    + list(product(CHOSEN, repeat=2))
+    + list(combinations(CHOSEN, 3))
+    + list(combinations(CHOSEN, 4))
+    + [(CHOSEN[0], CHOSEN[1], CHOSEN[0], CHOSEN[1]), (CHOSEN[2],) * 4, (CHOSEN[0], CHOSEN[2], CHOSEN[0])]
+)
+
+
+def lot(many):
+    """The readers with these parts."""
+    return [Reader(*told) for told in many]
 
 
 def trials(many, figures, longest):
