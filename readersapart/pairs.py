@@ -2,7 +2,7 @@
 
 from readersapart.checks import check_length
 from readersapart.readers import check_reader
-from readersapart.walks import all_go_on, are_unlike, least_text, some_go_on, tally
+from readersapart.walks import all_go_on, all_take, are_unlike, least_text, some_go_on, tally
 
 
 def alone(one, other):
@@ -28,7 +28,7 @@ def count(reader, length):
     check_reader(reader)
     check_length(length)
     found = tally((reader,), length, all_go_on)
-    return sum([found[marks] for marks in found if _all_take(marks)])
+    return sum([found[marks] for marks in found if all_take(marks)])
 
 
 def count_both(one, other, length):
@@ -36,7 +36,7 @@ def count_both(one, other, length):
     _check_pair(one, other)
     check_length(length)
     found = tally((one, other), length, all_go_on)
-    both = sum([found[marks] for marks in found if _all_take(marks)])
+    both = sum([found[marks] for marks in found if all_take(marks)])
     return (both, sum([found[marks] for marks in found if _mean_two(marks)]))
 
 
@@ -53,9 +53,5 @@ def _just_first_takes(marks):
     return marks[0] is not None and marks[1] is None
 
 
-def _all_take(marks):
-    return None not in marks
-
-
 def _mean_two(marks):
-    return _all_take(marks) and are_unlike(marks)
+    return all_take(marks) and are_unlike(marks)

@@ -23,26 +23,35 @@ SIGNS = ((" ", 1), ("'", 1), (",", 1), ("-", 1), (".", 1), ("0", 1), ("1", 9), (
 def least_text(readers, may_go_on, is_wanted):
     """The shortest text, of these the least, with wanted marks; None without one.
 
-    Texts go on only from stands from which they may go on. No text without
-    signs is told, as no reader takes it.
+    Texts go on only from stands from which they may go on.
     """
-    start = _start(readers)
+    for text, stands in first_arrivals(readers, may_go_on):
+        if is_wanted(marks_of(stands)):
+            return text
+    return None
+
+
+def first_arrivals(readers, may_go_on):
+    """Each stands to which texts come, behind the shortest text, of these the least, that comes there.
+
+    These are in the order of the texts, shorter ones first. Texts go on only
+    from stands from which they may go on.
+    """
+    start = start_of(readers)
     seen = {start: True}
     row = [("", start)]
+    yield ("", start)
     while row:
         # Row is in ascending order, and so is what is made of it: the first
         # text that comes to some stands is the least of the shortest ones.
         longer = []
         for text, stands in row:
-            for sign, stands_behind, _ in _moves(readers, stands, may_go_on):
-                if stands_behind in seen:
-                    continue
-                if is_wanted(_marks(stands_behind)):
-                    return text + sign
-                seen[stands_behind] = True
-                longer.append((text + sign, stands_behind))
+            for sign, stands_behind, _ in moves_from(readers, stands, may_go_on):
+                if stands_behind not in seen:
+                    seen[stands_behind] = True
+                    longer.append((text + sign, stands_behind))
+                    yield (text + sign, stands_behind)
         row = longer
-    return None
 
 
 def tally(readers, length, may_go_on):
@@ -50,19 +59,19 @@ def tally(readers, length, may_go_on):
 
     Only texts count that go on from stands from which they may go on.
     """
-    many = {_start(readers): 1}
+    many = {start_of(readers): 1}
     moves = {}
     for _ in range(length):
         longer = {}
         for stands in many:
             if stands not in moves:
-                moves[stands] = _moves(readers, stands, may_go_on)
+                moves[stands] = moves_from(readers, stands, may_go_on)
             for _, stands_behind, times in moves[stands]:
                 longer[stands_behind] = longer.get(stands_behind, 0) + many[stands] * times
         many = longer
     found = {}
     for stands in many:
-        marks = _marks(stands)
+        marks = marks_of(stands)
         found[marks] = found.get(marks, 0) + many[stands]
     return found
 
@@ -77,16 +86,22 @@ def all_go_on(stands):
     return all([stand is not None for stand in stands])
 
 
+def all_take(marks):
+    """Whether each reader takes the text."""
+    return None not in marks
+
+
 def are_unlike(marks):
     """Whether the text is taken by some readers, and not as the same number by all."""
     return len(set(marks)) > 1
 
 
-def _start(readers):
+def start_of(readers):
+    """The stands of the readers ahead of all signs."""
     return tuple([(START, False, False) for _ in readers])
 
 
-def _moves(readers, stands, may_go_on):
+def moves_from(readers, stands, may_go_on):
     """Triples of a sign, the stands behind it, and how many signs are read like it."""
     found = []
     for sign, times in SIGNS:
@@ -107,7 +122,8 @@ def _behind(reader, stand, sign):
     return (state, pointed or state == POINT, worth or (sign in "123456789" and state[0] != "power"))
 
 
-def _marks(stands):
+def marks_of(stands):
+    """The marks of the readers at the end of a text that comes to these stands."""
     return tuple([_mark(stand) for stand in stands])
 
 
